@@ -24,8 +24,8 @@ func known(r rune) []int {
 	return out
 }
 
-// Many that ask at the same time are told the same: this file's name is the
-// package's first one, so that its test is the one that makes the tables.
+// Many that ask at the same time are told the same: of the files whose tests
+// ask Tabled this one's name is the first, so that its test lays the tables.
 func TestAskedAtOnce(t *testing.T) {
 	want := map[rune][]int{
 		0x28:     {14, 0, 19, 0, 0, 0x29, 0x29, 1, 1, 1, 0, 0},
@@ -42,6 +42,9 @@ func TestAskedAtOnce(t *testing.T) {
 			for r, all := range want {
 				if told := known(r); !slices.Equal(told, all) {
 					t.Errorf("of %X: %d, want %d", r, told, all)
+				}
+				if e := ucd.Tabled(r); int(e.Class) != all[0] || int(e.Break) != all[2] || int(e.Mirror) != all[5] {
+					t.Errorf("tabled of %X: %+v, want %d", r, e, all)
 				}
 			}
 		})

@@ -18,20 +18,15 @@ var mirrors = [...]rune{
 	0x2264, 0x2265, 0x226A, 0x226B, 0x2282, 0x2283,
 }
 
-// mirrorRows tells of each mirror one more than its place among the mirrors.
-func mirrorRows() []row {
-	var rows []row
-	for place, r := range mirrors {
-		rows = append(rows, row{uint8(place + 1), []span{{r, r}}})
-	}
-	return rows
-}
-
 // mirrorPlace tells a character's place among the mirrors, below 0 if it is
 // none.
 func mirrorPlace(r rune) int {
-	mirrorOnce.Do(func() { mirrorTable = laid(0, mirrorRows()) })
-	return int(mirrorTable.at(r)) - 1
+	for place := range len(mirrors) {
+		if mirrors[place] == r {
+			return place
+		}
+	}
+	return -1
 }
 
 // canonical tells the closing bracket that counts as a closing one.

@@ -5,15 +5,6 @@ import (
 	"unicode/utf8"
 )
 
-// span is the characters from the first up to the last one, which is in it.
-type span struct{ first, last rune }
-
-// row is what is known of the characters of spans.
-type row struct {
-	value uint8
-	spans []span
-}
-
 // blockSize is how many characters a block has.
 const blockSize = 256
 
@@ -24,7 +15,7 @@ type block [blockSize]uint8
 // the blocks say. Blocks that say the same are one.
 type stages struct {
 	others uint8
-	first  []uint8
+	first  []uint16
 	second []block
 }
 
@@ -36,33 +27,21 @@ func (s stages) at(r rune) uint8 {
 	return s.second[s.first[r/blockSize]][r%blockSize]
 }
 
-// laid makes a table: of each character what the first row says that has it,
-// and of all others what is said of those.
-func laid(others uint8, rows []row) stages {
-	values := slices.Repeat([]uint8{others}, utf8.MaxRune+1)
-	for _, w := range slices.Backward(rows) { // what is written last is what counts
-		for _, s := range w.spans {
-			for r := s.first; r <= s.last; r++ {
-				values[r] = w.value
-			}
+// laid makes the table of what is known of each character; runes that are none
+// are all alike.
+func laid(known func(r rune) uint8) stages {
+	s := stages{others: known(-1)}
+	var b block
+	for from := rune(0); from <= utf8.MaxRune; from += blockSize {
+		for i := range b {
+			b[i] = known(from + rune(i))
 		}
-	}
-	return cut(others, values)
-}
-
-// cut makes a table of what is known of each character.
-func cut(others uint8, values []uint8) stages {
-	s := stages{others: others}
-	places := map[block]uint8{}
-	for values := range slices.Chunk(values, blockSize) {
-		b := block(values)
-		place, ok := places[b]
-		if !ok {
-			place = uint8(len(s.second))
-			places[b] = place
+		place := slices.Index(s.second, b)
+		if place < 0 {
+			place = len(s.second)
 			s.second = append(s.second, b)
 		}
-		s.first = append(s.first, place)
+		s.first = append(s.first, uint16(place))
 	}
 	return s
 }
