@@ -71,16 +71,14 @@ func partOf(r *bin.Reader, at, n int) *bin.Reader {
 }
 
 // subtable tells where the subtable of that encoding begins, if there is one
-// and it is of that format. Where it begins, a format has to be told.
+// and it is of that format. Where no bytes are, there is none: a record of one
+// that does not count may point anywhere.
 func subtable(r, records *bin.Reader, encoding, format uint16) (int, bool) {
 	for at := 0; at < records.Len(); at += 8 {
-		if records.Word(at) != platform || records.Word(at+2) != encoding {
-			continue
+		if records.Word(at) == platform && records.Word(at+2) == encoding {
+			begin := int(records.Long(at + 4))
+			return begin, begin <= r.Len()-2 && r.Word(begin) == format
 		}
-		begin := int(records.Long(at + 4))
-		ok := r.Word(begin) == format
-		requireSound(r)
-		return begin, ok
 	}
 	return 0, false
 }

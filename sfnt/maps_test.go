@@ -50,17 +50,50 @@ func TestMapsRecords(t *testing.T) {
 	areNoMaps(t, "others alike behind", cmap(encoded{3, 10, row}, encoded{4, 0, row}, encoded{4, 0, row}), 9)
 	areMaps(t, "an encoding less, a platform more", cmap(encoded{2, 65535, segment}, encoded{3, 1, segment}, encoded{65535, 0, row}), 9, b)
 	for _, at := range []int{len(both) - 1, len(both), len(both) + 1, 1 << 31, 1<<32 - 1} {
-		areNoMaps(t, "(3, 10) outside", changed(both, [3]int{16, 4, at}), 9)
+		areMaps(t, "(3, 10) outside", changed(both, [3]int{16, 4, at}), 9, b)
+		areNoMaps(t, "(3, 10) outside, alone", changed(cmap(encoded{3, 10, row}), [3]int{8, 4, at}), 9)
+		areNoMaps(t, "both outside", changed(both, [3]int{8, 4, at}, [3]int{16, 4, at}), 9)
 		areMaps(t, "(3, 1) outside", changed(both, [3]int{8, 4, at}), 9, a)
 		areNoMaps(t, "(3, 1) outside, alone", changed(cmap(encoded{3, 1, segment}), [3]int{8, 4, at}), 9)
 		areMaps(t, "another outside", changed(cmap(encoded{0, 3, nil}, encoded{3, 1, segment}), [3]int{8, 4, at}), 9, b)
 	}
+	begin := len(both) - len(row)
 	for n := range both {
-		areNoMaps(t, "cut off", both[:n], 9)
+		if n == begin || n == begin+1 {
+			areMaps(t, "cut off ahead of the format 12", both[:n], 9, b)
+		} else {
+			areNoMaps(t, "cut off", both[:n], 9)
+		}
 	}
 	areMaps(t, "more behind", append(both, 1, 2, 3), 9, a)
 	twin := cmap(encoded{3, 10, row}, encoded{4, 0, nil})
 	areMaps(t, "one that is shared", changed(twin, [3]int{16, 4, 20}), 9, a)
+}
+
+// P5.5: a record's place, wherever it is, counts if the format stands there; a
+// subtable of that format that is cut off is wrong, one of no format is none.
+func TestMapsPlaces(t *testing.T) {
+	row, segment := format12([3]int{65, 65, 2}), format4([][4]int{{66, 66, 65536 - 63, 0}, {65535, 65535, 1, 0}})
+	both := append(cmap(encoded{3, 1, segment}, encoded{3, 10, row}), 0, 12)
+	areNoMaps(t, "the format 12 alone, at the end", changed(both, [3]int{16, 4, len(both) - 2}), 9)
+	areMaps(t, "a byte of it", changed(both, [3]int{16, 4, len(both) - 1}), 9, api.Map{Rune: 66, Glyph: 3})
+	right := 0
+	for at := range len(both) + 9 {
+		if sameMaps(t, changed(both, [3]int{16, 4, at}), 9) {
+			right++
+		}
+		sameMaps(t, changed(both, [3]int{8, 4, at}), 9)
+		sameMaps(t, changed(both, [3]int{8, 4, at}, [3]int{16, 4, len(both)}), 9)
+	}
+	if right < len(both)+4 {
+		t.Errorf("%d right ones of %d", right, len(both)+9)
+	}
+	r := bin.Open(changed(both, [3]int{16, 4, len(both)}))
+	for range 2 {
+		if l, e := sfnt.Maps(r, 9); e != api.OK || len(l) != 1 || r.Bad() {
+			t.Errorf("asked again: %v %d, bad: %t", l, e, r.Bad())
+		}
+	}
 }
 
 // P5.5: the example of the format 12, and its glyphs' number.

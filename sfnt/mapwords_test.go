@@ -93,8 +93,7 @@ func pairs4(b []byte) (pairs, bool) {
 	return l, true
 }
 
-// mapsByWords tells what Maps has to answer, as the chapter's words say; where
-// a subtable of the platform 3 with the encoding 10 begins, a format has to stand.
+// mapsByWords tells what Maps has to answer, as the chapter's words say.
 func mapsByWords(b []byte, glyphs int) ([]api.Map, bool) {
 	n, ok := numberAt(b, 2, 2)
 	if !ok || !is(b, 0, 2, 0) || len(b) < 4+8*n {
@@ -111,17 +110,12 @@ func mapsByWords(b []byte, glyphs int) ([]api.Map, bool) {
 			return nil, false
 		}
 	}
-	if at, ok := places[[2]int{3, 10}]; ok {
-		if _, ok := numberAt(b, at, 2); !ok {
+	if at, ok := places[[2]int{3, 10}]; ok && is(b, at, 2, 12) {
+		l, ok := pairs12(b[at:])
+		if !ok {
 			return nil, false
 		}
-		if is(b, at, 2, 12) {
-			l, ok := pairs12(b[at:])
-			if !ok {
-				return nil, false
-			}
-			return l.maps(glyphs)
-		}
+		return l.maps(glyphs)
 	}
 	if at, ok := places[[2]int{3, 1}]; ok && is(b, at, 2, 4) {
 		l, ok := pairs4(b[at:])
